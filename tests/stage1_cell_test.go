@@ -2,6 +2,7 @@ package tests
 
 import (
 	"math"
+	"slices"
 	"testing"
 
 	"loop.example/hostel/impl"
@@ -72,18 +73,6 @@ func (k kindOfWord) wordOf(n []int) uint64 {
 	return w
 }
 
-func same(a []int, b []int) bool {
-	if len(a) != len(b) {
-		return false
-	}
-	for i := range a {
-		if a[i] != b[i] {
-			return false
-		}
-	}
-	return true
-}
-
 // eachRow goes through all rows with one number of each choice.
 func eachRow(choices [][]int, see func(n []int)) {
 	row := make([]int, len(choices))
@@ -111,11 +100,11 @@ func within(most int) []int {
 
 func TestLimits(t *testing.T) {
 	got := []int{impl.CellMaxVal, impl.CellMaxAddr, impl.CellMaxEpoch, impl.CellMaxSlot, impl.CellMaxStamp}
-	if !same(got, []int{1048575, 4095, 4095, 7, 4294967295}) {
+	if !slices.Equal(got, []int{1048575, 4095, 4095, 7, 4294967295}) {
 		t.Error(got)
 	}
 	got = []int{impl.CellFree, impl.CellHeld, impl.CellDone, impl.CellOut, impl.CellLive, impl.CellCut}
-	if !same(got, []int{0, 1, 2, 0, 1, 2}) {
+	if !slices.Equal(got, []int{0, 1, 2, 0, 1, 2}) {
 		t.Error(got)
 	}
 }
@@ -132,7 +121,7 @@ func TestPackedIsRead(t *testing.T) {
 			if w != k.wordOf(n) {
 				t.Errorf("%s%v is %#x, not %#x", k.name, n, w, k.wordOf(n))
 			}
-			if got := k.read(w); !same(got, n) {
+			if got := k.read(w); !slices.Equal(got, n) {
 				t.Errorf("%s%v is read as %v", k.name, n, got)
 			}
 		})
@@ -169,10 +158,10 @@ func TestWholeFields(t *testing.T) {
 			high := append([]int(nil), k.most...)
 			for n := 0; n <= m; n++ {
 				low[at], high[at] = n, n
-				if got := k.read(k.make(low)); !same(got, low) {
+				if got := k.read(k.make(low)); !slices.Equal(got, low) {
 					t.Fatalf("%s%v is read as %v", k.name, low, got)
 				}
-				if got := k.read(k.make(high)); !same(got, high) {
+				if got := k.read(k.make(high)); !slices.Equal(got, high) {
 					t.Fatalf("%s%v is read as %v", k.name, high, got)
 				}
 			}
@@ -207,7 +196,7 @@ func TestNumbersThatDoNotFit(t *testing.T) {
 			if w != k.wordOf(want) {
 				t.Errorf("%s%v is %#x, not that of %v", k.name, n, w, want)
 			}
-			if got := k.read(w); !same(got, want) {
+			if got := k.read(w); !slices.Equal(got, want) {
 				t.Errorf("%s%v is read as %v, not %v", k.name, n, got, want)
 			}
 		})
