@@ -343,13 +343,7 @@ func TestNothingIsDoneInWordsOfNoHouse(t *testing.T) {
 // its changes stand on the desk of its slot.
 func deskByModel(b impl.Book, x impl.Book, slot int, c impl.PlatCfg, stamp int) ([]uint64, []uint64) {
 	w := standing(c, b, stampThree)
-	var changes []uint64
-	was := modelLay(b)
-	for at, val := range modelLay(x) {
-		if val != was[at] {
-			changes = append(changes, changeOf(at, val, stamp))
-		}
-	}
+	changes := modelPlan(b, x, stamp)
 	writeDesk(w, c, slot, stamp, changes...)
 	w[doorAt] = doorOf(doorDone, slot, b.Epoch[slot]%4096, stamp)
 	return w, changes
