@@ -386,19 +386,31 @@ func TestGuestsThrown(t *testing.T) {
 	}
 }
 
-// seeUnkept looks at the two guests that are ok, but whom the table alone would
-// not leave so: one that turns the door, having found it free for a slot that is
-// none of the house; and one that aids another, but has changes of its own, and
-// not so many. No guest comes to be so where guests alone turn words.
-func seeUnkept(t *testing.T, c impl.PlatCfg, w []uint64, g impl.Guest) {
-	t.Helper()
-	wantWords, want, wantDid := modelStep(w, g)
+// modelKept is a step of the model that leaves a guest ok: there are two guests
+// that are ok, but whom the table alone would not leave so. One turns the door,
+// having found it free for a slot that is none of the house; and one aids
+// another, but has changes of its own, and not so many. No guest comes to be so
+// where guests alone turn words.
+func modelKept(w []uint64, g impl.Guest) ([]uint64, impl.Guest, int) {
+	now, to, did := modelStep(w, g)
+	c, _ := modelHouse(w)
+	if modelGuestOk(c, to) {
+		return now, to, did
+	}
 	switch {
 	case g.Pc == pcTurn && g.Who >= c.Slots:
-		want.Who = g.Slot
-	case g.Pc == pcAid && g.Own && want.N != len(g.Plan):
-		want.Own, want.Pc, want.Entry = false, pcEntry, g.Entry
-	default:
+		to.Who = g.Slot
+	case g.Pc == pcAid && g.Own && to.N != len(g.Plan):
+		to.Own, to.Pc, to.Entry = false, pcEntry, g.Entry
+	}
+	return now, to, did
+}
+
+// seeUnkept holds a step of such a guest against the model.
+func seeUnkept(t *testing.T, c impl.PlatCfg, w []uint64, g impl.Guest) {
+	t.Helper()
+	wantWords, want, wantDid := modelKept(w, g)
+	if !modelGuestOk(c, want) {
 		t.Fatalf("at %d: the model leaves a guest that is not ok: %+v, behind %+v", g.Pc, want, g)
 	}
 	got, to, did := guestStep(t, w, g)
