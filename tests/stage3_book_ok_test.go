@@ -338,6 +338,7 @@ func TestBooksTurnedAtOnePlace(t *testing.T) {
 // Pages in every arrangement of a small house, with and without an owner at the
 // first unit of each.
 func TestEveryRowOfPages(t *testing.T) {
+	t.Parallel()
 	says := []int{0, 4, 7, 9, 10, 11, 12, 13}
 	good := 0
 	for pages := 1; pages <= 5; pages++ {

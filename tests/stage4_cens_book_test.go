@@ -295,6 +295,7 @@ func TestAnEmptyHouseTurned(t *testing.T) {
 // Every value of every word turned into every value that may mean something,
 // held against the model; some of them stand for another book.
 func TestEveryValueTurned(t *testing.T) {
+	t.Parallel()
 	books := append(booksAsked(300, 150), modelOpen(1, 1))
 	stood := 0
 	for i, b := range books {

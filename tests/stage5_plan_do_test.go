@@ -344,6 +344,7 @@ func TestEveryOrder(t *testing.T) {
 
 // A number just above all stamps, at both ends of those that a plan may have.
 func TestNumbersOfPlansCarriedOut(t *testing.T) {
+	t.Parallel()
 	d := dice(7)
 	b := bookOfKinds()
 	for _, stamp := range []int{1, 2, magic, magic + 1, mostPlan - 1, mostPlan} {

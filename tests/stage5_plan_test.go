@@ -200,6 +200,7 @@ func seeChanges(t *testing.T, w []uint64, c impl.PlatCfg, list []uint64, stamp i
 // Every call of books of all houses, with desks and without, held against the
 // model; all codes come about.
 func TestPlansOfManyBooks(t *testing.T) {
+	t.Parallel()
 	codes := map[int]int{}
 	for i, b := range append(booksAsked(300, 60), wornBook()) {
 		c := houseOf(b, 1+i%mostLease)

@@ -265,6 +265,7 @@ func reaped(t *testing.T, w []uint64) []uint64 {
 // that it is fenced, if its call had not happened, and else what the book said;
 // and what it does then turns nothing of the book.
 func TestReapedAndGoesOn(t *testing.T) {
+	t.Parallel()
 	places := map[int]int{}
 	for _, s := range stoppedCalls() {
 		for steps := 0; ; steps++ {
@@ -317,6 +318,7 @@ func seeGoesOn(t *testing.T, x *told, happened bool, s heard) {
 // The same, with somebody who has come in behind it at its slot, and has taken a
 // room: nothing of that one turns, not its beat either.
 func TestGoesOnBehindAnother(t *testing.T) {
+	t.Parallel()
 	for _, s := range stoppedCalls() {
 		for steps := 0; ; steps++ {
 			x, happened := stopped(t, s, steps)
@@ -347,6 +349,7 @@ func TestGoesOnBehindAnother(t *testing.T) {
 // A guest that is cut off at each of its steps, but not reaped: by somebody who
 // wants the door, if it holds it, or else by the register's word alone.
 func TestCutOffAndGoesOn(t *testing.T) {
+	t.Parallel()
 	for _, s := range stoppedCalls() {
 		for steps := 0; ; steps++ {
 			x, happened := stopped(t, s, steps)

@@ -159,6 +159,7 @@ func (x *crowd) happens(t *testing.T, d *dice) {
 // again, and the clock ticks: what has happened is what the plain book says, one
 // call behind the other, at each step.
 func TestCrowds(t *testing.T) {
+	t.Parallel()
 	met := map[int]int{}
 	for n := range 24 {
 		d := dice(1000 + n)
@@ -190,6 +191,7 @@ func TestCrowds(t *testing.T) {
 // Two guests, one of which stops at one of its steps after the other, while the
 // other one makes a whole call, if the door lets it: all calls beside all others.
 func TestEachStepBetweenTwoCalls(t *testing.T) {
+	t.Parallel()
 	calls := []impl.BookOp{
 		{Kind: takes, A: 1}, {Kind: takes, A: 2}, {Kind: gives, A: 0}, {Kind: gives, A: 2},
 		{Kind: hands, A: 0, B: 1}, {Kind: hands, A: 2, B: 0}, {Kind: leaves}, {Kind: reaps, A: 0}, {Kind: reaps, A: 1},

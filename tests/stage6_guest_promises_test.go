@@ -355,6 +355,7 @@ func waysOut() []string {
 // each step held against the model. Where the chapter's table alone would leave
 // a guest that is not ok, the promise counts.
 func TestGuestsThrown(t *testing.T) {
+	t.Parallel()
 	d := dice(14)
 	met := map[string]int{}
 	unkept := 0

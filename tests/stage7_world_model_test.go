@@ -2,6 +2,7 @@ package tests
 
 import (
 	"reflect"
+	"runtime"
 	"slices"
 	"testing"
 
@@ -119,6 +120,14 @@ func modelTrueBook(w []uint64) (impl.Book, bool) {
 		return impl.Book{}, false
 	}
 	return modelBook(done, c)
+}
+
+// onOneProcessor is for tests of very many steps: each of them goes from hand to
+// hand, which costs least there.
+func onOneProcessor(t *testing.T) {
+	t.Helper()
+	was := runtime.GOMAXPROCS(1)
+	t.Cleanup(func() { runtime.GOMAXPROCS(was) })
 }
 
 // The calls of the chapter, with their memory looked at.

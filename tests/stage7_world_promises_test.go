@@ -47,6 +47,7 @@ func (d *dice) anyEvent(w impl.World) impl.WorldEvent {
 
 // P17, of worlds and events that are thrown.
 func TestAnythingHappensToAnyWorld(t *testing.T) {
+	onOneProcessor(t)
 	d := dice(17)
 	turned := 0
 	for range 3000 {
@@ -122,6 +123,7 @@ func seeDead(t *testing.T, w impl.World, e impl.WorldEvent, x impl.World) {
 // P17 and P18 on walks from open houses, of events one by one; and all of them
 // played at once, and in two parts.
 func TestWalksOfWorlds(t *testing.T) {
+	onOneProcessor(t)
 	dead, told := 0, map[int]bool{}
 	for n := range 24 {
 		d := dice(700 + n)
@@ -159,6 +161,7 @@ func TestWalksOfWorlds(t *testing.T) {
 // P18: thrown worlds in which all are dead: whatever they are let or asked to do,
 // nothing turns.
 func TestAllAreDead(t *testing.T) {
+	onOneProcessor(t)
 	d := dice(18)
 	for range 300 {
 		w := d.anyWorld()

@@ -110,6 +110,7 @@ func TestCutsTellWhom(t *testing.T) {
 // Steps at each place of a guest of each number, and many of them at once, held
 // against the model.
 func TestTalesOfEachPlace(t *testing.T) {
+	onOneProcessor(t)
 	d := dice(81)
 	later := 0
 	for range 20 {
@@ -344,6 +345,7 @@ func TestTheOrderIsThatOfTurns(t *testing.T) {
 
 // Thrown worlds and thrown events, held against the model.
 func TestAnyTale(t *testing.T) {
+	onOneProcessor(t)
 	d := dice(82)
 	met := map[bool]int{}
 	for range 1500 {

@@ -186,6 +186,7 @@ func (x *chronicle) call(d *dice, i int) impl.WorldEvent {
 // P19 and P20 on walks of guests that go on at single words, die and are cut off,
 // asked behind each event.
 func TestTalesOfWalks(t *testing.T) {
+	onOneProcessor(t)
 	met := map[int]int{}
 	for n := range 16 {
 		d := dice(800 + n)
@@ -279,6 +280,7 @@ func (x *chronicle) goesOn(t *testing.T, second impl.BookOp, ticks int, dies boo
 // P19 and P20: at each word of each call the guest stops, or dies, its lease runs
 // out or does not, another one makes a call, helps, cuts off, breaks and reaps.
 func TestTalesAtEachWord(t *testing.T) {
+	onOneProcessor(t)
 	calls := []impl.BookOp{
 		{Kind: takes, A: 1}, {Kind: gives, A: 0}, {Kind: hands, A: 0, B: 1}, {Kind: leaves}, {Kind: reaps, A: 1}, {Kind: takes, A: 9},
 	}
@@ -332,6 +334,7 @@ func succeeded(t *testing.T, words int) *chronicle {
 // P19 and P20: one who was reaped wakes up, and goes on at the desk of the one who
 // has come in behind it, who stands at each word of its own call.
 func TestTalesOfSuccessors(t *testing.T) {
+	onOneProcessor(t)
 	fenced, others := 0, 0
 	for words := 33; words < 66; words += 2 {
 		x := succeeded(t, words)
@@ -365,6 +368,7 @@ func TestTalesOfSuccessors(t *testing.T) {
 // P19 and P20: three guests go on in turns, by one word or a few; one of them dies
 // in turn after turn, and time goes by in another one.
 func TestTalesInTurns(t *testing.T) {
+	onOneProcessor(t)
 	for dies := 0; dies < 330; dies += 3 {
 		x := chronicleOf(t, impl.WorldOpen(impl.PlatCfg{Slots: 3, Pages: 1, Lease: 2}))
 		calls := []impl.BookOp{{Kind: takes, A: 3}, {Kind: takes, A: 4}, {Kind: gives, A: 0}, {Kind: hands, A: 4, B: 1}, {Kind: reaps, A: 0}, {Kind: leaves}}
@@ -429,6 +433,7 @@ func TestCutOffBehindItsLeaving(t *testing.T) {
 // Near their ends, the numbers of the door, the epochs and the clock: what is worn
 // does not happen, and all else is what the book says.
 func TestTalesNearTheEnds(t *testing.T) {
+	onOneProcessor(t)
 	worn := 0
 	for n := range 12 {
 		d := dice(900 + n)

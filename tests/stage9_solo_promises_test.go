@@ -155,6 +155,7 @@ func (x *chronicle) lets(e impl.WorldEvent) {
 // P21 and P22 on walks of guests that go on at single words, and die: behind each
 // event one of them is alone.
 func TestAloneFromWalks(t *testing.T) {
+	onOneProcessor(t)
 	l := newLonely()
 	for n := range 12 {
 		d := dice(940 + n)
@@ -205,6 +206,7 @@ func (l *lonely) behindOne(t *testing.T, w impl.World, op impl.BookOp) {
 
 // P21 and P22: at each word of each call a guest stops, or dies.
 func TestAloneAtEachWord(t *testing.T) {
+	onOneProcessor(t)
 	calls := []impl.BookOp{
 		{Kind: takes, A: 2}, {Kind: gives, A: 0}, {Kind: hands, A: 0, B: 1}, {Kind: leaves}, {Kind: reaps, A: 1}, {Kind: reaps, A: 0}, {Kind: takes, A: 9},
 	}
@@ -271,6 +273,7 @@ func stops(w impl.World, i int, see func(n int, w impl.World)) {
 // each word of its own, of cutting the first one off, and of carrying out what
 // that has done; and the third one is alone.
 func TestAloneBehindTwo(t *testing.T) {
+	onOneProcessor(t)
 	l := newLonely()
 	pairs := [][2]impl.BookOp{
 		{{Kind: takes, A: 2}, {Kind: gives, A: 2}},
@@ -334,6 +337,7 @@ func (l *lonely) behindTwo(t *testing.T, w impl.World, op impl.BookOp, n int) {
 // Just within the bounds of both promises: the clock is a lease and 1 below its
 // end, and the door's stamp and all Counts are 1000 below 1000000.
 func TestAloneAtTheBounds(t *testing.T) {
+	onOneProcessor(t)
 	l := newLonely()
 	for n := range 8 {
 		d := dice(960 + n)
@@ -365,6 +369,7 @@ func TestAloneAtTheBounds(t *testing.T) {
 // P22 of as many rooms as there are: each unit is a room of slot 0, which has died
 // with the last one in its hand; and of all pages in one room and one page.
 func TestAllRoomsComeBack(t *testing.T) {
+	onOneProcessor(t)
 	c := impl.PlatCfg{Slots: 3, Pages: 6, Lease: 3}
 	in := []impl.WorldEvent{bornAt(0), asksOf(0, enters, 0, 0), stepsOf(0, 400), bornAt(2), asksOf(1, enters, 0, 0), stepsOf(1, 400)}
 	open := impl.WorldPlay(impl.WorldOpen(c), in)

@@ -309,6 +309,7 @@ func TestReapingsAreCalls(t *testing.T) {
 // In worlds that are thrown, of any guest and any slot; in half of them the words
 // fit together, and who is idle is in.
 func TestAnyReaping(t *testing.T) {
+	onOneProcessor(t)
 	d := dice(92)
 	met := map[int]int{}
 	for n := range 400 {

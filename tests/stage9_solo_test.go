@@ -290,6 +290,7 @@ func TestTicksOfRuns(t *testing.T) {
 
 // From each place, of a guest that has seen much, and in worlds that are thrown.
 func TestAnyRun(t *testing.T) {
+	onOneProcessor(t)
 	for pc := pcBeat; pc <= pcYield; pc++ {
 		for seq := 19; seq <= 21; seq++ {
 			g := with(guestAt(pc), func(g *impl.Guest) { g.Seq, g.Epoch, g.Slot, g.Op.Slot = seq, 2, 0, 0 })
